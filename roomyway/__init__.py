@@ -1,0 +1,1 @@
+"""Roomyway: bodies that slide among walls, and what shows that they cannot."""

@@ -1,0 +1,67 @@
+"""Point 2 and the bounds of ../shared/LANGUAGE.md that can be read off the files."""
+
+import ast
+import unittest
+import warnings
+from pathlib import Path
+
+PACKAGE = Path(__file__).resolve().parent.parent / "roomyway"
+LIBRARY = {"__future__", "collections", "heapq", "itertools", "math"}
+
+
+def sources():
+    return sorted(PACKAGE.rglob("*.py"))
+
+
+def is_allowed_import(node):
+    if not isinstance(node, ast.ImportFrom) or node.level:
+        return False
+    return node.module in LIBRARY or node.module.split(".")[0] == "roomyway"
+
+
+class Package(unittest.TestCase):
+
+    def each_node(self):
+        for path in sources():
+            for node in ast.walk(ast.parse(path.read_text("utf-8"))):
+                yield path, node
+
+    def test_there_are_only_python_files(self):
+        self.assertTrue((PACKAGE / "__init__.py").is_file())
+        for path in PACKAGE.rglob("*"):
+            if path.is_file() and "__pycache__" not in path.parts:
+                self.assertEqual(path.suffix, ".py", path)
+
+    def test_nothing_from_outside_is_imported(self):
+        for path, node in self.each_node():
+            if isinstance(node, (ast.Import, ast.ImportFrom)):
+                self.assertTrue(is_allowed_import(node), (path, node.lineno))
+
+    def test_no_floating_point(self):
+        for path, node in self.each_node():
+            self.assertNotIsInstance(node, ast.Div, path)
+            if isinstance(node, ast.Constant):
+                self.assertNotIsInstance(node.value, (float, complex), (path, node.lineno))
+
+    def test_python_warns_of_nothing(self):
+        for path in sources():
+            with warnings.catch_warnings():
+                warnings.simplefilter("error")
+                compile(path.read_text("utf-8"), str(path), "exec")
+
+    def test_sizes_and_characters(self):
+        for path in sources():
+            text = path.read_text("utf-8")
+            self.assertTrue(all(sign == "\n" or " " <= sign <= "~" for sign in text), path)
+            lines = text.splitlines()
+            self.assertLessEqual(len(lines), 399, path)
+            self.assertLessEqual(max([len(line) for line in lines], default=0), 120, path)
+
+    def test_functions_are_small(self):
+        for path, node in self.each_node():
+            if isinstance(node, ast.FunctionDef):
+                self.assertLessEqual(node.end_lineno - node.lineno + 1, 40, (path, node.name))
+
+
+if __name__ == "__main__":
+    unittest.main()
