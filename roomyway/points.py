@@ -52,14 +52,19 @@ def is_name(thing):
 
 def is_corner(thing):
     """Return True if a thing (anything) is a pair of integers from -10000 to 10000, otherwise False."""
+    return is_corner_from(thing, -FARTHEST, FARTHEST)
+
+
+def is_corner_from(thing, least, most):
+    """Return True if a thing (anything) is a pair of integers from the least to the most, otherwise False."""
     if not isinstance(thing, tuple) or len(thing) != 2:
         return False
-    return _is_coordinate(thing[0]) and _is_coordinate(thing[1])
+    return is_whole(thing[0], least, most) and is_whole(thing[1], least, most)
 
 
-def _is_coordinate(thing):
-    """Return True if a thing (anything) is an integer from -10000 to 10000, otherwise False."""
+def is_whole(thing, least, most):
+    """Return True if a thing (anything) is an integer from the least to the most, otherwise False."""
     # To Python True and False are integers, but to the document they are not.
     if not isinstance(thing, int) or isinstance(thing, bool):
         return False
-    return -FARTHEST <= thing <= FARTHEST
+    return least <= thing <= most

@@ -1,6 +1,7 @@
 """Point 2 and the bounds of ../shared/LANGUAGE.md that can be read off the files."""
 
 import ast
+import builtins
 import unittest
 import warnings
 from pathlib import Path
@@ -17,6 +18,15 @@ def is_allowed_import(node):
     if not isinstance(node, ast.ImportFrom) or node.level:
         return False
     return node.module in LIBRARY or node.module.split(".")[0] == "roomyway"
+
+
+def bound_in(function):
+    """The names of the parameters and local variables of a function."""
+    arguments = function.args
+    names = [one.arg for one in arguments.posonlyargs + arguments.args + arguments.kwonlyargs]
+    names += [one.arg for one in (arguments.vararg, arguments.kwarg) if one]
+    return names + [node.id for node in ast.walk(function)
+                    if isinstance(node, ast.Name) and isinstance(node.ctx, ast.Store)]
 
 
 class Package(unittest.TestCase):
@@ -36,6 +46,37 @@ class Package(unittest.TestCase):
         for path, node in self.each_node():
             if isinstance(node, (ast.Import, ast.ImportFrom)):
                 self.assertTrue(is_allowed_import(node), (path, node.lineno))
+
+    def test_what_is_imported_is_defined_there(self):
+        for path, node in self.each_node():
+            if isinstance(node, ast.ImportFrom) and node.module.startswith("roomyway."):
+                source = (PACKAGE / f"{node.module.split('.')[1]}.py").read_text("utf-8")
+                defined = [one.name for one in ast.parse(source).body if hasattr(one, "name")]
+                defined += [one.targets[0].id for one in ast.parse(source).body if isinstance(one, ast.Assign)]
+                for one in node.names:
+                    self.assertIsNone(one.asname, path)
+                    self.assertIn(one.name, defined, path)
+
+    def test_names_have_one_meaning(self):
+        for path in sources():
+            tree = ast.parse(path.read_text("utf-8"))
+            taken = set(dir(builtins))
+            for node in tree.body:
+                if isinstance(node, ast.ImportFrom):
+                    taken |= {one.name for one in node.names}
+                if isinstance(node, ast.ClassDef):
+                    taken.add(node.name)
+            for node in ast.walk(tree):
+                if isinstance(node, ast.FunctionDef):
+                    self.assertFalse(taken & set(bound_in(node)), (path, node.name))
+
+    def test_what_is_imported_is_used(self):
+        for path in sources():
+            tree = ast.parse(path.read_text("utf-8"))
+            used = {node.id for node in ast.walk(tree) if isinstance(node, ast.Name)}
+            for node in tree.body:
+                if isinstance(node, ast.ImportFrom):
+                    self.assertLessEqual({one.name for one in node.names}, used, path)
 
     def test_no_floating_point(self):
         for path, node in self.each_node():
