@@ -88,17 +88,17 @@ class Cells:
     def __init__(self, field, cuts):
         self.field = field
         self.cuts = cuts
-        self.lines = {}
+        self.known = {}
 
     def line(self, k):
         """Return the line number k: its first coordinate, the part of each region on it, or None, and the gaps."""
-        if k not in self.lines:
+        if k not in self.known:
             x = self._coordinate(k)
             n, d = x
             ends = (n, self.field.bottom * d, n, self.field.top * d, d)
             parts = [part_in(ends, fence, WITHIN) for fence in self.field.fences]
-            self.lines[k] = (x, parts, gaps_between(parts))
-        return self.lines[k]
+            self.known[k] = (x, parts, gaps_between(parts))
+        return self.known[k]
 
     def _coordinate(self, k):
         """Return the first coordinate of the line number k."""
