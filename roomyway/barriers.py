@@ -10,7 +10,7 @@ from roomyway.ways import free_field
 
 def find_barrier(room, body, start, goal):
     """Return a barrier between the start and the goal, or None if there is none."""
-    field = free_field(room, body, start, goal)
+    field = free_field(room, body, [start, goal])
     return Net(field, start, goal).ring()
 
 

@@ -27,7 +27,7 @@ def line_between(a, b, piece):
     """Return a line (u, c) between the segment and the piece, or None if they are not apart."""
     ends = segment(a, b)
     ax, ay, bx, by, w = ends
-    for u, v in _directions(ends, piece):
+    for u, v in directions(ends, piece):
         least = min(u * ax + v * ay, u * bx + v * by)
         greatest = max([u * x + v * y for x, y in piece])
         if greatest * w < least:
@@ -35,8 +35,8 @@ def line_between(a, b, piece):
     return None
 
 
-def _directions(ends, piece):
-    """Return the directions of which one leads from the piece to the segment, if they are apart.
+def directions(ends, piece):
+    """Return the list of the directions of which one leads from the piece to the segment, if they are apart.
 
     They are those at right angles to the sides of both. Where all lies on one line, these do not tell the two apart,
     but the directions of the axes do, and they are among the planes of the piece.

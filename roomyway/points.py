@@ -1,5 +1,7 @@
 """Corners, points and their turns, and names."""
 
+from math import gcd
+
 from roomyway.ratios import is_less, sign
 
 FARTHEST = 10000
@@ -68,3 +70,21 @@ def is_whole(thing, least, most):
     if not isinstance(thing, int) or isinstance(thing, bool):
         return False
     return least <= thing <= most
+
+
+def is_point(thing):
+    """Return True if a thing (anything) is a pair of numbers in lowest terms, otherwise False."""
+    if not isinstance(thing, tuple) or len(thing) != 2:
+        return False
+    return is_number(thing[0]) and is_number(thing[1])
+
+
+def is_number(thing):
+    """Return True if a thing (anything) is a pair (n, d) in lowest terms with d at least 1, otherwise False."""
+    if not isinstance(thing, tuple) or len(thing) != 2:
+        return False
+    n, d = thing
+    for part in (n, d):
+        if not isinstance(part, int) or isinstance(part, bool):
+            return False
+    return d >= 1 and gcd(n, d) == 1

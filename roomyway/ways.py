@@ -12,7 +12,7 @@ MOST_REGIONS = 60
 
 def find_way(room, body, start, goal):
     """Return a free way from the start to the goal, or None if there is none."""
-    field = free_field(room, body, start, goal)
+    field = free_field(room, body, [start, goal])
     if start == goal:
         return (start,)
     if field.leads_free(start, goal):
@@ -23,11 +23,11 @@ def find_way(room, body, start, goal):
     return _shortened(points, field)
 
 
-def free_field(room, body, start, goal):
-    """Return the field of a body; raise an error if a place is not free or the regions are too many."""
+def free_field(room, body, places):
+    """Return the field of a body; raise an error if one of the places is not free or the regions are too many."""
     field = Field(room, body)
-    if not field.has_free(start) or not field.has_free(goal):
-        raise NotFree("the start or the goal is not a free place")
+    if not all([field.has_free(place) for place in places]):
+        raise NotFree("one of the places is not free")
     if len(field.around) > MOST_REGIONS:
         raise TooLarge("there are too many regions")
     return field

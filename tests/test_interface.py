@@ -32,6 +32,20 @@ FUNCTIONS = {
         "is_loose": "room body place", "length": "way", "in_sight": "room body start goal",
         "slide": "room body start goal", "takes_slide": "room body start goal answer",
     },
+    "movers": {
+        "check_task": "room task", "is_safe": "room task tick first second", "find_plan": "room task",
+        "takes_plan": "room task plan", "takes_layers": "room task layers",
+    },
+    "notation": {"write": "thing", "read": "text", "room_text": "room", "read_room": "text"},
+    "margins": {
+        "distance": "a b piece", "distance_paper": "a b piece", "takes_distance": "paper a b piece d",
+        "margin": "room body way",
+    },
+    "groups": {
+        "tour": "room body places", "groups": "room body places", "groups_paper": "room body places",
+        "takes_groups": "room body places found paper",
+    },
+    "pictures": {"picture": "room body step"},
 }
 METHODS = {
     ("rooms", "Room"): {
@@ -39,6 +53,13 @@ METHODS = {
         "add_body": "self name shape", "drop": "self name", "drop_body": "self name", "open_door": "self name",
         "shut_door": "self name", "size": "self", "walls": "self", "bodies": "self", "doors": "self", "copy": "self",
     },
+    ("keeper", "Keeper"): {
+        "__init__": "self width height", "build": "self name shape", "hang": "self name shape",
+        "add_body": "self name shape", "drop": "self name", "drop_body": "self name", "open_door": "self name",
+        "shut_door": "self name", "ask": "self name body start goal", "forget": "self name", "undo": "self",
+        "room": "self", "requests": "self", "answer": "self name", "changed": "self",
+    },
+    ("desk", "Desk"): {"__init__": "self width height", "answer": "self line", "lines": "self"},
 }
 
 

@@ -6,7 +6,7 @@ from fractions import Fraction
 from itertools import product
 
 from roomyway import points
-from roomyway.points import is_corner, is_name, on_segment, point, turn
+from roomyway.points import is_corner, is_name, is_point, on_segment, point, turn
 
 GRID = [point((x, y)) for x in range(-1, 3) for y in range(-1, 2)]
 NUMBERS = [(0, 1), (1, 2), (-2, 3), (5, 7), (3, 1)]
@@ -208,6 +208,32 @@ class Corners(unittest.TestCase):
         ):
             with self.subTest(thing=thing):
                 self.assertIs(is_corner(thing), False)
+
+
+class Points(unittest.TestCase):
+    """Point 4: numbers in lowest terms, and points."""
+
+    def test_points(self):
+        numbers = ((0, 1), (1, 1), (-1, 1), (1, 2), (-7, 3), (HUGE, 1), (1, HUGE), (-HUGE, HUGE + 1))
+        for thing in product(numbers, repeat=2):
+            with self.subTest(thing=thing):
+                self.assertIs(is_point(thing), True)
+
+    def test_numbers_that_are_not_in_lowest_terms(self):
+        for wrong in (
+            (2, 2), (0, 2), (0, -1), (0, 0), (1, 0), (1, -1), (-1, -1), (4, 6), (3 * HUGE, 9), (3, -2),
+            (1,), (1, 2, 3), (), 1, "11", [1, 1], (1, True), (True, 1), (1.0, 1), (1, "1"), ((1, 1), 1), None,
+        ):
+            for thing in ((wrong, (1, 1)), ((1, 1), wrong), (wrong, wrong)):
+                with self.subTest(thing=thing):
+                    self.assertIs(is_point(thing), False)
+
+    def test_other_things(self):
+        for thing in (
+            None, True, 0, "", "ab", (), ((1, 1),), ((1, 1),) * 3, [(1, 1), (1, 1)], (1, 1), {}, object(), (1, (1, 1)),
+        ):
+            with self.subTest(thing=thing):
+                self.assertIs(is_point(thing), False)
 
 
 class Arguments(unittest.TestCase):
